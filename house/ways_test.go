@@ -1,0 +1,23 @@
+package house
+
+import (
+	"strings"
+	"testing"
+)
+
+// asked is, by package, which of the language's ways the document's section 'Ways' asks for.
+var asked = []struct{ face, ways string }{
+	{"sha1", "array function-field range-function embedding variadic generic-function label"},
+}
+
+func TestWays(t *testing.T) {
+	for _, a := range asked {
+		missing, err := WaysMissing("..", "pursuivant", []string{a.face}, strings.Fields(a.ways))
+		if err != nil {
+			t.Fatal(err)
+		}
+		for _, m := range missing {
+			t.Errorf("%s: way missing: %s", a.face, m)
+		}
+	}
+}

@@ -8,6 +8,7 @@ import (
 // asked is, by package, which of the language's ways the document's section 'Ways' asks for.
 var asked = []struct{ face, ways string }{
 	{"sha1", "array function-field range-function embedding variadic generic-function label"},
+	{"hmac", "array closure embedding promoted variadic range-function generic-function"},
 }
 
 func TestWays(t *testing.T) {

@@ -9,6 +9,7 @@ import (
 var asked = []struct{ face, ways string }{
 	{"sha1", "array function-field range-function embedding variadic generic-function label"},
 	{"hmac", "array closure embedding promoted variadic range-function generic-function"},
+	{"aes", "array once range-function label function-field embedding variadic generic-function"},
 }
 
 func TestWays(t *testing.T) {

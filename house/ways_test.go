@@ -10,6 +10,7 @@ var asked = []struct{ face, ways string }{
 	{"sha1", "array function-field range-function embedding variadic generic-function label"},
 	{"hmac", "array closure embedding promoted variadic range-function generic-function"},
 	{"aes", "array once range-function label function-field embedding variadic generic-function"},
+	{"cmac", "array array-compared closure embedding variadic range-function label generic-function"},
 }
 
 func TestWays(t *testing.T) {

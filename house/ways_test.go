@@ -11,6 +11,7 @@ var asked = []struct{ face, ways string }{
 	{"hmac", "array closure embedding promoted variadic range-function generic-function"},
 	{"aes", "array once range-function label function-field embedding variadic generic-function"},
 	{"cmac", "array array-compared closure embedding variadic range-function label generic-function"},
+	{"mac", "function-field map range-function label array closure variadic generic-function"},
 }
 
 func TestWays(t *testing.T) {

@@ -12,6 +12,7 @@ var asked = []struct{ face, ways string }{
 	{"aes", "array once range-function label function-field embedding variadic generic-function"},
 	{"cmac", "array array-compared closure embedding variadic range-function label generic-function"},
 	{"mac", "function-field map range-function label array closure variadic generic-function"},
+	{"kdf", "function-field map generic-function variadic closure range-function label embedding"},
 }
 
 func TestWays(t *testing.T) {

@@ -13,6 +13,7 @@ var asked = []struct{ face, ways string }{
 	{"cmac", "array array-compared closure embedding variadic range-function label generic-function"},
 	{"mac", "function-field map range-function label array closure variadic generic-function"},
 	{"kdf", "function-field map generic-function variadic closure range-function label embedding"},
+	{"sum", "range-function label variadic embedding promoted generic-function closure"},
 }
 
 func TestWays(t *testing.T) {

@@ -14,6 +14,7 @@ var asked = []struct{ face, ways string }{
 	{"mac", "function-field map range-function label array closure variadic generic-function"},
 	{"kdf", "function-field map generic-function variadic closure range-function label embedding"},
 	{"sum", "range-function label variadic embedding promoted generic-function closure"},
+	{"tcp", "function-field map range-function label panic recover generic-function closure embedding defer"},
 }
 
 func TestWays(t *testing.T) {

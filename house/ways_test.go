@@ -15,6 +15,7 @@ var asked = []struct{ face, ways string }{
 	{"kdf", "function-field map generic-function variadic closure range-function label embedding"},
 	{"sum", "range-function label variadic embedding promoted generic-function closure"},
 	{"tcp", "function-field map range-function label panic recover generic-function closure embedding defer"},
+	{"seg", "function-field label range-function variadic closure embedding generic-function"},
 }
 
 func TestWays(t *testing.T) {

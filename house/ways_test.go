@@ -16,6 +16,7 @@ var asked = []struct{ face, ways string }{
 	{"sum", "range-function label variadic embedding promoted generic-function closure"},
 	{"tcp", "function-field map range-function label panic recover generic-function closure embedding defer"},
 	{"seg", "function-field label range-function variadic closure embedding generic-function"},
+	{"keys", "generic-function closure array function-field map goto"},
 }
 
 func TestWays(t *testing.T) {

@@ -17,6 +17,7 @@ var asked = []struct{ face, ways string }{
 	{"tcp", "function-field map range-function label panic recover generic-function closure embedding defer"},
 	{"seg", "function-field label range-function variadic closure embedding generic-function"},
 	{"keys", "generic-function closure array function-field map goto"},
+	{"sne", "closure goto embedding struct-compared iota method-value"},
 }
 
 func TestWays(t *testing.T) {

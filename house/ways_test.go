@@ -18,6 +18,7 @@ var asked = []struct{ face, ways string }{
 	{"seg", "function-field label range-function variadic closure embedding generic-function"},
 	{"keys", "generic-function closure array function-field map goto"},
 	{"sne", "closure goto embedding struct-compared iota method-value"},
+	{"ao", "array function-field variadic embedding promoted goto"},
 }
 
 func TestWays(t *testing.T) {

@@ -19,6 +19,7 @@ var asked = []struct{ face, ways string }{
 	{"keys", "generic-function closure array function-field map goto"},
 	{"sne", "closure goto embedding struct-compared iota method-value"},
 	{"ao", "array function-field variadic embedding promoted goto"},
+	{"window", "embedding struct-compared variadic goto closure"},
 }
 
 func TestWays(t *testing.T) {

@@ -20,6 +20,7 @@ var asked = []struct{ face, ways string }{
 	{"sne", "closure goto embedding struct-compared iota method-value"},
 	{"ao", "array function-field variadic embedding promoted goto"},
 	{"window", "embedding struct-compared variadic goto closure"},
+	{"rto", "embedding generic-function goto struct-compared promoted"},
 }
 
 func TestWays(t *testing.T) {

@@ -21,6 +21,7 @@ var asked = []struct{ face, ways string }{
 	{"ao", "array function-field variadic embedding promoted goto"},
 	{"window", "embedding struct-compared variadic goto closure"},
 	{"rto", "embedding generic-function goto struct-compared promoted"},
+	{"reasm", "range-function generic-function function-field closure goto"},
 }
 
 func TestWays(t *testing.T) {

@@ -22,6 +22,7 @@ var asked = []struct{ face, ways string }{
 	{"window", "embedding struct-compared variadic goto closure"},
 	{"rto", "embedding generic-function goto struct-compared promoted"},
 	{"reasm", "range-function generic-function function-field closure goto"},
+	{"stream", "array method-value embedding promoted variadic goto closure function-field"},
 }
 
 func TestWays(t *testing.T) {

@@ -23,6 +23,7 @@ var asked = []struct{ face, ways string }{
 	{"rto", "embedding generic-function goto struct-compared promoted"},
 	{"reasm", "range-function generic-function function-field closure goto"},
 	{"stream", "array method-value embedding promoted variadic goto closure function-field"},
+	{"frame", "function-field label embedding promoted generic-function variadic closure"},
 }
 
 func TestWays(t *testing.T) {

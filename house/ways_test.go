@@ -25,6 +25,7 @@ var asked = []struct{ face, ways string }{
 	{"stream", "array method-value embedding promoted variadic goto closure function-field"},
 	{"frame", "function-field label embedding promoted generic-function variadic closure"},
 	{"open", "function-field label range-function generic-function variadic closure embedding"},
+	{"attrs", "function-field range-function label generic-function variadic closure embedding"},
 }
 
 func TestWays(t *testing.T) {

@@ -26,6 +26,7 @@ var asked = []struct{ face, ways string }{
 	{"frame", "function-field label embedding promoted generic-function variadic closure"},
 	{"open", "function-field label range-function generic-function variadic closure embedding"},
 	{"attrs", "function-field range-function label generic-function variadic closure embedding"},
+	{"update", "range-function label variadic function-field closure embedding generic-function struct-compared map"},
 }
 
 func TestWays(t *testing.T) {

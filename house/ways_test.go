@@ -27,6 +27,7 @@ var asked = []struct{ face, ways string }{
 	{"open", "function-field label range-function generic-function variadic closure embedding"},
 	{"attrs", "function-field range-function label generic-function variadic closure embedding"},
 	{"update", "range-function label variadic function-field closure embedding generic-function struct-compared map"},
+	{"msg", "map function-field range-function label embedding promoted generic-function variadic closure"},
 }
 
 func TestWays(t *testing.T) {

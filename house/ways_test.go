@@ -28,6 +28,7 @@ var asked = []struct{ face, ways string }{
 	{"attrs", "function-field range-function label generic-function variadic closure embedding"},
 	{"update", "range-function label variadic function-field closure embedding generic-function struct-compared map"},
 	{"msg", "map function-field range-function label embedding promoted generic-function variadic closure"},
+	{"fsm", "map method-value variadic closure panic recover defer type-switch embedding promoted iota function-field"},
 }
 
 func TestWays(t *testing.T) {

@@ -29,6 +29,7 @@ var asked = []struct{ face, ways string }{
 	{"update", "range-function label variadic function-field closure embedding generic-function struct-compared map"},
 	{"msg", "map function-field range-function label embedding promoted generic-function variadic closure"},
 	{"fsm", "map method-value variadic closure panic recover defer type-switch embedding promoted iota function-field"},
+	{"policy", "closure label range-function generic-function function-field variadic struct-compared"},
 }
 
 func TestWays(t *testing.T) {

@@ -30,6 +30,7 @@ var asked = []struct{ face, ways string }{
 	{"msg", "map function-field range-function label embedding promoted generic-function variadic closure"},
 	{"fsm", "map method-value variadic closure panic recover defer type-switch embedding promoted iota function-field"},
 	{"policy", "closure label range-function generic-function function-field variadic struct-compared"},
+	{"ribin", "map range-function label function-field embedding closure variadic generic-function"},
 }
 
 func TestWays(t *testing.T) {

@@ -31,6 +31,7 @@ var asked = []struct{ face, ways string }{
 	{"fsm", "map method-value variadic closure panic recover defer type-switch embedding promoted iota function-field"},
 	{"policy", "closure label range-function generic-function function-field variadic struct-compared"},
 	{"ribin", "map range-function label function-field embedding closure variadic generic-function"},
+	{"decide", "function-field range-function label generic-function variadic closure array"},
 }
 
 func TestWays(t *testing.T) {

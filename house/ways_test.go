@@ -32,6 +32,7 @@ var asked = []struct{ face, ways string }{
 	{"policy", "closure label range-function generic-function function-field variadic struct-compared"},
 	{"ribin", "map range-function label function-field embedding closure variadic generic-function"},
 	{"decide", "function-field range-function label generic-function variadic closure array"},
+	{"ribout", "map range-function label closure function-field variadic embedding generic-function"},
 }
 
 func TestWays(t *testing.T) {

@@ -33,6 +33,7 @@ var asked = []struct{ face, ways string }{
 	{"ribin", "map range-function label function-field embedding closure variadic generic-function"},
 	{"decide", "function-field range-function label generic-function variadic closure array"},
 	{"ribout", "map range-function label closure function-field variadic embedding generic-function"},
+	{"rib", "embedding range-function label variadic map closure generic-function promoted"},
 }
 
 func TestWays(t *testing.T) {

@@ -25,12 +25,15 @@ func add(of ...byte) byte {
 	return sum
 }
 
+// double is the product with x.
+func double(b byte) byte { return b<<1 ^ b>>7*reduced }
+
 // Mul: P3.1.
 func Mul(a, b byte) byte {
 	var product byte
 	for ; b != 0; b >>= 1 {
 		product ^= a * (b & 1)
-		a = a<<1 ^ a>>7*reduced
+		a = double(a)
 	}
 	return product
 }

@@ -34,6 +34,7 @@ var asked = []struct{ face, ways string }{
 	{"decide", "function-field range-function label generic-function variadic closure array"},
 	{"ribout", "map range-function label closure function-field variadic embedding generic-function"},
 	{"rib", "embedding range-function label variadic map closure generic-function promoted"},
+	{"line", "map method-value variadic array function-field embedding promoted goto"},
 }
 
 func TestWays(t *testing.T) {

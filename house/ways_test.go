@@ -35,6 +35,7 @@ var asked = []struct{ face, ways string }{
 	{"ribout", "map range-function label closure function-field variadic embedding generic-function"},
 	{"rib", "embedding range-function label variadic map closure generic-function promoted"},
 	{"line", "map method-value variadic array function-field embedding promoted goto"},
+	{"speaker", "map method-expression range-function closure embedding promoted goto variadic function-field"},
 }
 
 func TestWays(t *testing.T) {

@@ -36,6 +36,7 @@ var asked = []struct{ face, ways string }{
 	{"rib", "embedding range-function label variadic map closure generic-function promoted"},
 	{"line", "map method-value variadic array function-field embedding promoted goto"},
 	{"speaker", "map method-expression range-function closure embedding promoted goto variadic function-field"},
+	{"world", "map method-value variadic goto iota generic-function range-integer"},
 }
 
 func TestWays(t *testing.T) {

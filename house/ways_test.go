@@ -37,6 +37,7 @@ var asked = []struct{ face, ways string }{
 	{"line", "map method-value variadic array function-field embedding promoted goto"},
 	{"speaker", "map method-expression range-function closure embedding promoted goto variadic function-field"},
 	{"world", "map method-value variadic goto iota generic-function range-integer"},
+	{"script", "map function-field range-function label variadic generic-function embedding closure"},
 }
 
 func TestWays(t *testing.T) {

@@ -38,6 +38,7 @@ var asked = []struct{ face, ways string }{
 	{"speaker", "map method-expression range-function closure embedding promoted goto variadic function-field"},
 	{"world", "map method-value variadic goto iota generic-function range-integer"},
 	{"script", "map function-field range-function label variadic generic-function embedding closure"},
+	{"console", "map function-field panic recover defer embedding range-function label generic-function variadic"},
 }
 
 func TestWays(t *testing.T) {

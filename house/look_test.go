@@ -92,7 +92,7 @@ func WaysMissing(root, module string, faces, wanted []string) ([]string, error) 
 		if f, ok := o.(*types.Func); ok {
 			o = f.Origin()
 		}
-		if o != nil && decls[o] != nil && !seen[o] && len(faces) == 1 && o.Pkg().Path() == module+"/"+faces[0] { // what lower layers lean on does not count
+		if o != nil && decls[o] != nil && !seen[o] {
 			seen[o] = true
 			work = append(work, o)
 		}

@@ -99,13 +99,16 @@ func TestOut(t *testing.T) {
 		{api.Ack, false, 1004, 1000, 0},
 		{0, true, 3, 1000, 7777},
 		{api.Rst, true, 1<<32 - 1, 1000, 7777},
+		{api.Ack, true, 1005, 1000, 0xa1b2c3d4},
 	} {
 		for _, m := range list {
 			ka, _, g, _ := pair(t)
 			ka.Prefer(2, m.Send)
 			g, _ = ao.New(ka, conn)
 			ka.Prefer(2, list[1].Send) // by m it sends all the same, the other one is wanted
-			if r.learned {
+			if r.learned && r.peer != 0 {
+				g.Learn(r.peer)
+			} else if r.learned {
 				g.Learn(7777)
 			}
 			data := []byte{1, 2, 3}

@@ -131,6 +131,21 @@ func TestInner(t *testing.T) {
 	}
 }
 
+// P32.1, P32.3: a Med is said, or none is: seven bytes more.
+func TestMed(t *testing.T) {
+	var sizes []string
+	for _, med := range []string{"-", "0", "4294967295"} {
+		c := up(t)
+		answers(t, c, "own 0 10.0.0.0/8 0 9 "+med+" -> ok")
+		b, _ := c.Line("bag")
+		sizes = append(sizes, b)
+	}
+	a, _ := strconv.Atoi(sizes[0])
+	if b, _ := strconv.Atoi(sizes[1]); b != a+7 || sizes[1] != sizes[2] {
+		t.Error(sizes)
+	}
+}
+
 // P32.1, P32.3: lines that may not be: they change nothing.
 func TestWrong(t *testing.T) {
 	right := []string{
@@ -176,13 +191,13 @@ func TestWrong(t *testing.T) {
 	}
 	answers(t, c, "bag -> 1", "forge "+strings.Repeat("0f", 1000)+" -> ok", "bag -> 1 1000")
 	// A plain world that may not be leaves what there was.
-	answers(t, c, "plain 5 9 3 outer -> error 2", "plain 2 2 3 outer -> error 2", "plain 2 9 0 outer -> error 2", "plain 0 9 3 inner -> error 2", "plain 4294967295 9 4294967295 inner -> error 2", "bag -> 1 1000", "plain 1 0 65535 inner -> ok", "bag -> none")
+	answers(t, c, "plain 5 9 3 outer -> error 2", "plain 2 2 3 outer -> error 2", "plain 2 9 0 outer -> error 2", "plain 0 9 3 inner -> error 2", "plain 4294967295 9 4294967295 inner -> error 2", "bag -> 1 1000", "plain 1 0 65535 inner -> ok", "bag -> none", "plain 2 65535 1 outer -> ok", "key 0 2 255 255 hmac 00 -> ok", "own 0 0.0.0.0/0 255 9 - -> error 2", "bag -> none")
 }
 
 // P32.1: errors of what lines ask.
 func TestErrors(t *testing.T) {
 	c := console.New()
-	for _, line := range []string{"key 0 2 1 2 cmac 6b", "unkey 0 2 1", "want 0 0", "own 0 10.0.0.0/8 0 9 -", "lost 0 10.0.0.0/8", "tick 0", "deliver 0", "forge 00", "routes 0", "best 0 0", "line 0 0", "counts 0", "keys 0", "bag", "datagram 0"} {
+	for _, line := range []string{"key 0 2 1 2 cmac 6b", "unkey 0 2 1", "prefer 0 2 1", "want 0 0", "leave 0 0", "double 0", "drop 0", "own 0 10.0.0.0/8 0 9 -", "lost 0 10.0.0.0/8", "tick 0", "deliver 0", "forge 00", "routes 0", "best 0 0", "line 0 0", "counts 0", "keys 0", "bag", "datagram 0"} {
 		answers(t, c, line+" -> error 5")
 	}
 	answers(t, c, "plain 2 9 3 outer -> ok")

@@ -342,6 +342,25 @@ func TestStateCopySame(t *testing.T) {
 			t.Error(i)
 		}
 	}
+	// The same clocks, but another place; other clocks at one place; another session alone.
+	x, y := at(t, api.FsmConnect), at(t, api.FsmConnect)
+	does(t, y, kind(api.StirDown), listen)
+	if fsm.Same(x, y) {
+		t.Error("another place")
+	}
+	y = at(t, api.FsmConnect)
+	does(t, y, kind(api.StirTick))
+	if fsm.Same(x, y) {
+		t.Error("other clocks")
+	}
+	x, y = at(t, api.FsmOpenSent), at(t, api.FsmOpenSent)
+	does(t, x, message(opening(2, 9, 20)), alive)
+	bare := opening(2, 9, 20)
+	bare.Open.Caps = nil
+	does(t, y, message(bare), alive)
+	if fsm.Same(x, y) {
+		t.Error("another session")
+	}
 	refused, _ := fsm.New(api.Peering{})
 	for _, none := range []*fsm.Fsm{nil, {}, refused} {
 		l, e := none.Stir(api.Stir{})

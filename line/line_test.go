@@ -401,71 +401,260 @@ func TestFits(t *testing.T) {
 
 // hand is the other end of a line, laid by hand: it says what it likes.
 type hand struct {
+	t     *testing.T
+	line  *line.Line
+	own   *keys.Keys // the line's
 	guard *ao.Guard
 	end   *stream.Stream
 	keys  *keys.Keys
+	said  []byte // what the line said
+
+	coming []api.Seg // to the hand
+}
+
+// handOf is a hand at the other end of a line; its stream is of that ISN.
+func handOf(t *testing.T, l api.Line, isn uint32, calls bool) (*hand, []api.Seg) {
+	t.Helper()
+	h := &hand{t: t, line: made(t, l), own: ring(t, l.Peer, 1, 2), keys: ring(t, l.Local, 2, 1)}
+	return h, h.begin(isn, calls)
+}
+
+// begin begins a connection, in place of the one that was there.
+func (h *hand) begin(isn uint32, calls bool) []api.Seg {
+	h.t.Helper()
+	var e api.Errno
+	h.guard, e = ao.New(h.keys, api.Conn{Local: 2, Peer: 1, LocalPort: 179, PeerPort: 179, LocalISN: isn})
+	if e != api.OK {
+		h.t.Fatal(e)
+	}
+	end, parts := stream.New(isn, calls)
+	h.end = end
+	return h.tagged(parts...)
+}
+
+func (h *hand) tagged(parts ...api.Part) []api.Seg {
+	h.t.Helper()
+	var l []api.Seg
+	for _, p := range parts {
+		s, e := h.guard.Out(h.keys, api.Seg{Flags: p.Flags, Seq: p.Seq, Ack: p.Ack, Window: p.Window, Data: p.Data})
+		if e != api.OK {
+			h.t.Fatal(e)
+		}
+		l = append(l, s)
+	}
+	return l
+}
+
+// gives lets segments come to the line, and all that is answered to and fro, in order.
+func (h *hand) gives(segs ...api.Seg) []api.Tiding {
+	h.t.Helper()
+	var all []api.Tiding
+	for _, s := range segs {
+		there := h.line.State().Has
+		back, tidings, drop, e := h.line.Come(h.own, s)
+		if there && drop != api.DropNone || e != api.OK {
+			h.t.Fatal(drop, e)
+		}
+		h.coming = append(h.coming, back...)
+		all = append(all, tidings...)
+	}
+	if len(h.coming) == 0 {
+		return all
+	}
+	return append(all, h.gets()...)
+}
+
+// gets takes what the line sends, behind what it sent.
+func (h *hand) gets(segs ...api.Seg) []api.Tiding {
+	h.t.Helper()
+	var answers []api.Seg
+	all := append(h.coming, segs...)
+	h.coming = nil
+	for _, s := range all {
+		if d, e := h.guard.In(h.keys, s); d != api.DropNone || e != api.OK {
+			h.t.Fatal(d, e)
+		}
+		parts, _ := h.end.Come(api.Part{Flags: s.Flags, Seq: s.Seq, Ack: s.Ack, Window: s.Window, Data: s.Data})
+		if x := h.end.State(); (x.At == api.StreamHeard || x.At == api.StreamOpen) && h.guard.State().PeerISN != x.Peer {
+			h.guard.Learn(x.Peer)
+		}
+		b, more := h.end.Read()
+		h.said = append(h.said, b...)
+		answers = append(answers, h.tagged(append(parts, more...)...)...)
+	}
+	return h.gives(answers...)
+}
+
+func (h *hand) writes(b []byte) []api.Tiding {
+	h.t.Helper()
+	parts, e := h.end.Write(b)
+	if e != api.OK {
+		h.t.Fatal(e)
+	}
+	return h.gives(h.tagged(parts...)...)
+}
+
+func (h *hand) wanted() []api.Seg {
+	h.t.Helper()
+	segs, _, e := h.line.Want(h.own, true)
+	if e != api.OK {
+		h.t.Fatal(e)
+	}
+	return segs
+}
+
+func raw(t *testing.T, m api.Message) []byte {
+	t.Helper()
+	b, e := msg.Raw(m)
+	if e != api.OK {
+		t.Fatal(e)
+	}
+	return b
+}
+
+func hello(as, id uint32) api.Message {
+	return api.Message{Kind: api.MsgOpen, Open: api.Open{As: as, Hold: 9, Id: id}}
 }
 
 // P28.1: what a peer says that is no message, or an opening of another name; a flaw is told once.
 func TestFlaw(t *testing.T) {
 	for i, r := range []struct {
-		said      func() []byte
+		said      []byte
 		code, sub uint8
 	}{
-		{func() []byte { return make([]byte, 19) }, 1, 1},
-		{func() []byte {
-			b, _ := msg.Raw(api.Message{Kind: api.MsgOpen, Open: api.Open{As: 2, Hold: 9, Id: 21}})
-			return b
-		}, 2, 3},
-		{func() []byte {
-			b, _ := msg.Raw(api.Message{Kind: api.MsgOpen, Open: api.Open{As: 3, Hold: 9, Id: 20}})
-			return b
-		}, 2, 2},
-		{func() []byte { b, _ := msg.Raw(api.Message{Kind: api.MsgKeep}); return b }, 5, 1},
+		{make([]byte, 19), 1, 1},
+		{append(make([]byte, 19), make([]byte, 900)...), 1, 1},
+		{raw(t, hello(2, 21)), 2, 3},
+		{raw(t, hello(3, 20)), 2, 2},
+		{raw(t, api.Message{Kind: api.MsgKeep}), 5, 1},
 	} {
-		l, k := made(t, of(1, 2)), ring(t, 2, 1, 2)
-		h := &hand{keys: ring(t, 1, 2, 1)}
-		h.guard, _ = ao.New(h.keys, api.Conn{Local: 2, Peer: 1, LocalPort: 179, PeerPort: 179, LocalISN: 7})
-		h.end, _ = stream.New(7, false)
-		var said []byte
-		come := func(segs []api.Seg) {
-			for len(segs) > 0 {
-				s := segs[0]
-				segs = segs[1:]
-				if d, e := h.guard.In(h.keys, s); d != api.DropNone || e != api.OK {
-					t.Fatal(d, e)
-				}
-				parts, _ := h.end.Come(api.Part{Flags: s.Flags, Seq: s.Seq, Ack: s.Ack, Window: s.Window, Data: s.Data})
-				h.guard.Learn(h.end.State().Peer)
-				b, more := h.end.Read()
-				said = append(said, b...)
-				for _, p := range append(parts, more...) {
-					out, e := h.guard.Out(h.keys, api.Seg{Flags: p.Flags, Seq: p.Seq, Ack: p.Ack, Window: p.Window, Data: p.Data})
-					if e != api.OK {
-						t.Fatal(e)
-					}
-					back, tidings, _, _ := l.Come(k, out)
-					if len(tidings) > 0 {
-						t.Error(tidings)
-					}
-					segs = append(segs, back...)
-				}
-			}
-		}
-		segs, _, _ := l.Want(k, true)
-		if _, e := h.end.Write(r.said()); e != api.OK {
+		h, _ := handOf(t, of(1, 2), 7, false)
+		if _, e := h.end.Write(r.said); e != api.OK {
 			t.Fatal(e)
 		}
-		come(segs)
+		if tidings := h.gets(h.wanted()...); len(tidings) > 0 {
+			t.Error(tidings)
+		}
 		reader := msg.New()
-		reader.Write(said)
+		reader.Write(h.said)
 		first, _, _ := reader.Next()
 		second, is, e := reader.Next()
 		if first.Kind != api.MsgOpen || !is || e != api.OK || second.Kind != api.MsgNotice || second.Notice.Code != r.code || second.Notice.Sub != r.sub {
 			t.Error(i, first, second, is, e)
 		}
-		if s := l.State(); s.Has || s.Fsm.At != api.FsmIdle || h.end.State().At != api.StreamDone {
+		if s := h.line.State(); s.Has || s.Fsm.At != api.FsmIdle || h.end.State().At != api.StreamDone {
 			t.Error(i, s, h.end.State())
+		}
+	}
+}
+
+// P28.1: what comes byte by byte is read as it comes.
+func TestByteByByte(t *testing.T) {
+	h, _ := handOf(t, of(1, 2), 7, false)
+	h.gets(h.wanted()...)
+	var tidings []api.Tiding
+	for _, m := range []api.Message{hello(2, 20), {Kind: api.MsgKeep}, {Kind: api.MsgUpdate, Update: news(3)}} {
+		b := raw(t, m)
+		for i := range b {
+			if len(tidings) > 1 {
+				t.Fatal("told too early")
+			}
+			tidings = append(tidings, h.writes(b[i:i+1])...)
+		}
+	}
+	if !slices.Equal(kinds(tidings), []api.DeedKind{api.DeedOpen, api.DeedUpdate}) || !update.Same(tidings[1].Update, news(3)) {
+		t.Error(tidings)
+	}
+	if s := h.line.State(); s.Stream.Unread != 0 || s.Guard.In <= int64(s.Guard.PeerISN) {
+		t.Error("the mark of what comes is the first number still", s.Guard)
+	}
+}
+
+// P28.1: the peer's ISN is learned when the stream has heard it, and anew where it is another one.
+func TestLearns(t *testing.T) {
+	passive := of(1, 2)
+	passive.Peering.Passive = true
+	h, syn := handOf(t, passive, 7, true)
+	h.wanted()
+	knows := func(learned bool, isn uint32) {
+		t.Helper()
+		if g := h.line.State().Guard; g.Learned != learned || g.PeerISN != isn {
+			t.Error(g)
+		}
+	}
+	come := func(s api.Seg) {
+		t.Helper()
+		if _, _, drop, e := h.line.Come(h.own, s); drop != api.DropNone || e != api.OK {
+			t.Fatal(drop, e)
+		}
+	}
+	knows(false, 0)
+	come(syn[0])
+	knows(true, 7)
+	come(h.begin(9000, true)[0])
+	knows(true, 9000)
+	// Who calls learns nothing of what it does not heed.
+	h, _ = handOf(t, of(1, 2), 7, false)
+	h.wanted()
+	h.guard.Learn(1000)
+	come(h.tagged(api.Part{Flags: api.Syn | api.Ack, Seq: 7, Ack: 5})[0])
+	knows(false, 0)
+}
+
+// P28.1: a tick is the stream's, too: what was lost is sent again; what is given up lets the session down.
+func TestTick(t *testing.T) {
+	l := of(1, 2)
+	l.Peering.Retry = 1000
+	h, _ := handOf(t, l, 7, false)
+	syn := h.wanted()
+	var again []int
+	for n := range 191 {
+		segs, tidings, e := h.line.Tick(h.own)
+		if e != api.OK || len(tidings) > 0 || len(segs) > 0 && segs[0].Seq != syn[0].Seq {
+			t.Fatal(segs, tidings, e)
+		}
+		if len(segs) > 0 {
+			again = append(again, n+1)
+		}
+	}
+	// Eight times, and then it is not tried any more: one is awaited.
+	if s := h.line.State(); !slices.Equal(again, []int{2, 6, 14, 30, 62, 94, 126, 158}) || s.Fsm.At != api.FsmActive || s.Stream.At != api.StreamListen || s.Guard.LocalISN != 65000 {
+		t.Error(again, s)
+	}
+	// A session whose stream breaks closes.
+	a, b := of(1, 2), of(2, 1)
+	a.Peering.Own.Hold, b.Peering.Own.Hold = 60000, 60000
+	w := both(t, a, b)
+	w.want(0, true)
+	w.want(1, true)
+	w.all()
+	w.say(0, news(1))
+	w.sides[1].coming = nil
+	for range 250 {
+		w.tick(0)
+		w.sides[1].coming = nil
+	}
+	if got := kinds(w.sides[0].tidings); !slices.Equal(got, []api.DeedKind{api.DeedOpen, api.DeedClose}) {
+		t.Error(got)
+	}
+}
+
+// P28.1: drops are counted over connections that take one another's place; segments at their bounds may come.
+func TestDroppedOver(t *testing.T) {
+	passive := of(1, 2)
+	passive.Peering.Passive = true
+	h, _ := handOf(t, passive, 7, true)
+	h.wanted()
+	for i, s := range []api.Seg{{Flags: 15}, {Flags: 0, Data: make([]byte, 64)}, {Flags: 8, Has: true, Auth: api.Auth{Key: 3}}} {
+		isn := h.line.State().Guard.LocalISN
+		if _, _, drop, e := h.line.Come(h.own, s); drop != api.DropEnds || e != api.OK {
+			t.Error(i, drop, e)
+		}
+		for range 5 {
+			h.line.Tick(h.own)
+		}
+		if x := h.line.State(); x.Dropped != [6]int{0, i + 1} || x.Guard.Drops != [6]int{} || x.Guard.LocalISN != isn+64000 {
+			t.Error(i, x.Dropped, x.Guard)
 		}
 	}
 }

@@ -116,6 +116,8 @@ func TestSays(t *testing.T) {
 		{inner, pass, route(ten, api.Peer{As: 1, Id: 99, Addr: 99, Inner: true}, full), api.Attrs{}, false},
 		{outer, pass, route(ten, outer, full), api.Attrs{}, false},
 		{outer, pass, route(ten, api.Peer{As: 2, Id: 20, Addr: 201}, full), with(full, func(a *api.Attrs) { bare(a); ahead(a) }), true},
+		{outer, pass, route(ten, api.Peer{As: 2, Id: 21, Addr: 200}, full), with(full, func(a *api.Attrs) { bare(a); ahead(a) }), true},
+		{outer, pass, route(ten, api.Peer{As: 3, Id: 20, Addr: 200}, full), with(full, func(a *api.Attrs) { bare(a); ahead(a) }), true},
 		{outer, api.Policy{}, route(ten, third, full), api.Attrs{}, false},
 		{outer, tags, route(ten, third, full), with(full, func(a *api.Attrs) { a.Pref, a.Med, a.Tags = 4, 8, []uint32{1, 6}; ahead(a); ahead(a) }), true},
 		{outer, pass, route(ten, third, long), api.Attrs{}, false},

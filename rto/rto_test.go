@@ -70,6 +70,9 @@ func TestStartDueLate(t *testing.T) {
 		t.Error("it runs on")
 	}
 	late(1000, false, api.ErrDue)
+	if c.Copy().Start(0) != api.OK {
+		t.Error("it does not run: any tick may be the one since which it does")
+	}
 	if c.Start(4) != api.OK || c.Tries() != 0 || c.Wait() != 12 || c.Stop() != api.OK || c.Runs() || c.Wait() != 3 || c.Tries() != 0 {
 		t.Error("Start, Stop", c.Wait())
 	}
@@ -103,6 +106,10 @@ func TestSample(t *testing.T) {
 		if e := c.Sample(n); e != api.ErrArg || !rto.Same(c, before) {
 			t.Error(n, e)
 		}
+	}
+	c = clock(t, 3, 1, 64, 2)
+	if c.Sample(10); c.Wait() != 10+20 {
+		t.Error(c.Wait())
 	}
 	c = clock(t, 30, 20, 40, 3)
 	c.Sample(0)

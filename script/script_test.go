@@ -311,6 +311,10 @@ func TestKeeps(t *testing.T) {
 	routers := plain(t, 2)
 	puts := plain(t, 2)
 	puts[0].Neighbors[0].In.Rules = []api.Rule{{Most: 32}, {Most: 32, Times: 1}}
+	one, bare := plain(t, 2), plain(t, 2)
+	one[0].Neighbors[0].In.Rules = []api.Rule{{Most: 32, Times: 1}}
+	bare[0].Neighbors[0].In.Rules = []api.Rule{{Most: 32}}
+	bare[0].Neighbors[0].Out.Rules = []api.Rule{{Most: 32, Times: 1}}
 	told := func(of api.Peer, as ...uint32) api.Best {
 		return api.Best{Route: api.Route{Peer: of, Attrs: api.Attrs{Path: []api.Leg{{As: as}}}}}
 	}
@@ -336,6 +340,8 @@ func TestKeeps(t *testing.T) {
 		{routers, with(told(api.Peer{}, 1)), api.Kept{Bounds: true, Clean: true}},
 		{routers, with(told(api.Peer{}, 1), told(two, 1)), api.Kept{Bounds: true}},
 		{puts, with(told(two, 2, 1)), api.Kept{Bounds: true, Clean: true}},
+		{one, with(told(two, 2, 1)), api.Kept{Bounds: true, Clean: true}},
+		{bare, with(told(two, 2, 1)), api.Kept{Bounds: true}},
 		{nil, with(told(two, 2, 1)), api.Kept{Bounds: true, Clean: true}},
 		{routers[:1], api.Lived{Routers: []api.Stood{{}, {Best: []api.Best{told(two, 2)}}}}, api.Kept{Bounds: true, Clean: true}},
 		{routers, api.Lived{Routers: []api.Stood{{}, {Best: []api.Best{told(two, 2)}}}}, api.Kept{Bounds: true}},

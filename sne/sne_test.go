@@ -124,6 +124,9 @@ func TestMark(t *testing.T) {
 	if !sne.Same(m, c) {
 		t.Error("the same")
 	}
+	if z, e := sne.Of(0); e != api.OK || !sne.Same(z, sne.New(0)) || z.Copy() == nil {
+		t.Error("the mark 0 is one", z, e)
+	}
 	u, e := sne.Of(top)
 	if e != api.OK || u.Value() != top {
 		t.Error(u, e)

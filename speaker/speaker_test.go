@@ -373,6 +373,69 @@ func TestMany(t *testing.T) {
 	}
 }
 
+// P29.1: what is told while a line is not ready waits for it; nothing of it is lost.
+func TestNotReady(t *testing.T) {
+	w := build(t, router(1, 2), router(2, 1))
+	for round := range 2 {
+		for n := range 64 {
+			a := said
+			for tag := range uint32(16) {
+				a.Tags = append(a.Tags, tag)
+			}
+			a.Med, a.HasMed = uint32(n+round), true
+			w.goes(w.all[1].Own(prefix(n), a))
+		}
+	}
+	if x := w.all[1].State().Lines[0]; x.Waits == 0 {
+		t.Fatal("nothing waits")
+	}
+	w.settle()
+	for n := range 64 {
+		if b, is := w.all[2].Rib().Best(prefix(n)); !is || b.Route.Attrs.Med != uint32(n+1) {
+			t.Fatal(n, b, is)
+		}
+	}
+}
+
+// P29.1: who lets a neighbor go, or is let go by a tick, tells the others at once.
+func TestTellsBehind(t *testing.T) {
+	gone := func(l [][]byte, to uint32) bool {
+		return slices.ContainsFunc(l, func(b []byte) bool {
+			s, e := seg.Parse(b)
+			return e == api.OK && s.To == to && len(s.Data) == 19+4+5 // an update of one prefix that goes
+		})
+	}
+	w := build(t, router(1, 2), router(2, 1, 3), router(3, 2))
+	w.goes(w.all[3].Own(prefix(7), said))
+	w.settle()
+	l, e := w.all[2].Copy().Want(1, false)
+	if e != api.OK || !gone(l, 1) {
+		t.Error("Want", l, e)
+	}
+	told := false
+	for range 9 { // the first one answers, the third one is silent
+		l, e := w.all[2].Tick()
+		if e != api.OK {
+			t.Fatal(e)
+		}
+		told = told || gone(l, 1)
+		for _, b := range l {
+			if s, _ := seg.Parse(b); s.To == 1 {
+				back, _, e := w.all[1].Come(b)
+				w.goes(back, e)
+			}
+		}
+		w.goes(w.all[1].Tick())
+		for _, b := range w.coming {
+			w.all[2].Come(b)
+		}
+		w.coming = nil
+	}
+	if !told {
+		t.Error("Tick")
+	}
+}
+
 // P0.3: keys roll over without a segment dropped, and without a session's end.
 func TestRoll(t *testing.T) {
 	w := build(t, router(1, 2), router(2, 1))

@@ -499,3 +499,90 @@ func TestReadCopySame(t *testing.T) {
 		t.Error(x)
 	}
 }
+
+// P16.1: one Ack of the last bytes and of the end together.
+func TestAckOfAll(t *testing.T) {
+	s := opened(t, 80)
+	write(t, s, "abc")
+	sends(t, closes(t, s), part(fin|ack, 104, 501, 1024, ""))
+	sends(t, come(t, s, part(ack, 501, 105, 70, "")))
+	if w := s.State().Window; w != (api.Window{Acked: 3, Sent: 3, Most: 3, Limit: 80}) {
+		t.Error(w)
+	}
+	for range 400 { // nothing is waited for any more
+		sends(t, tick(t, s))
+	}
+	sends(t, come(t, s, part(fin|ack, 501, 105, 70, "")), part(ack, 105, 502, 1024, ""))
+	at(t, s, api.StreamDone, false)
+	sends(t, come(t, s, part(ack, 501, 105, 70, "x")), part(ack, 105, 502, 1024, ""))
+	sends(t, come(t, s, part(15, 501, 105, 70, "x")))
+}
+
+// P16.1: where nothing is waited for, no clock runs; where one byte waits, one does.
+func TestWaits(t *testing.T) {
+	for _, room := range []uint16{0, 9} {
+		s := opened(t, room)
+		for range 400 {
+			sends(t, tick(t, s))
+		}
+		at(t, s, api.StreamOpen, false)
+		if w := s.State().Window; w.Most != 0 {
+			t.Error(w)
+		}
+	}
+	s := opened(t, 0)
+	sends(t, write(t, s, "a"))
+	sends(t, tick(t, s))
+	sends(t, tick(t, s), part(ack, 101, 501, 1024, "a"))
+	// It is acknowledged, and no room is there: the next byte waits anew.
+	sends(t, come(t, s, part(ack, 501, 102, 0, "")))
+	for range 400 {
+		sends(t, tick(t, s))
+	}
+	sends(t, write(t, s, "b"))
+	sends(t, tick(t, s))
+	sends(t, tick(t, s), part(ack, 102, 501, 1024, "b"))
+}
+
+// P16.1: when it opens, the clock stops: what was written ahead of that is tried anew as long behind it.
+func TestOpensClock(t *testing.T) {
+	s, _ := stream.New(100, true)
+	write(t, s, "a")
+	sends(t, tick(t, s))
+	sends(t, come(t, s, part(synAck, 500, 101, 9, "")), part(ack, 101, 501, 1024, ""), part(ack, 101, 501, 1024, "a"))
+	sends(t, tick(t, s))
+	sends(t, tick(t, s), part(ack, 101, 501, 1024, "a"))
+	// An answer at once: the clock waits a tick at least.
+	s = opened(t, 9)
+	write(t, s, "a")
+	come(t, s, part(ack, 501, 102, 9, ""))
+	if s.State().Wait != 1 {
+		t.Error(s.State().Wait)
+	}
+	// What ends stops its clock.
+	s, _ = stream.New(100, true)
+	tick(t, s)
+	tick(t, s)
+	if s.State().Wait != 4 {
+		t.Error(s.State().Wait)
+	}
+	if _, e := s.Reset(); e != api.OK || s.State().Wait != 2 {
+		t.Error(e, s.State().Wait)
+	}
+}
+
+// P16.1: who is not open yet sends no end; all flags may come.
+func TestCloseEarly(t *testing.T) {
+	for _, calls := range []bool{false, true} {
+		s, _ := stream.New(100, calls)
+		sends(t, closes(t, s))
+		sends(t, come(t, s, part(15, 1, 2, 3, "all flags")))
+		if _, e := s.Write([]byte("x")); e != api.ErrDone {
+			t.Error(e)
+		}
+		if !calls {
+			sends(t, come(t, s, part(syn, 500, 0, 9, "")), part(synAck, 100, 501, 1024, ""))
+		}
+		sends(t, come(t, s, part(synAck, 500, 101, 9, "")), part(ack, 101, 501, 1024, ""), part(fin|ack, 101, 501, 1024, ""))
+	}
+}

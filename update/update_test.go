@@ -224,6 +224,9 @@ func TestParseRefuse(t *testing.T) {
 		{with(one, 0, 0), api.OK},
 		{full(one, 8, 11), api.OK},
 		{full([]byte{0}, many[:470]...), api.OK},
+		{full(nil, append([]byte{24, 0, 0, 0}, many[:470]...)...), api.OK}, // 2 and 2 and 14 and 474: 492
+		{full([]byte{0}, append([]byte{24, 0, 0, 0}, many[:470]...)...), api.OK},
+		{full([]byte{1, 0}, append([]byte{24, 0, 0, 0}, many[:470]...)...), api.ErrLong},
 	} {
 		u, e := update.Parse(r.b)
 		if e != r.e || e != api.OK && !update.Same(u, api.Update{}) {

@@ -232,6 +232,10 @@ func TestPicks(t *testing.T) {
 	if x := state(t, w, 0); x.Bad != 3 || x.Strange != 0 {
 		t.Error(x)
 	}
+	does(t, w, api.Turn{Kind: api.TurnForge})
+	if e := w.Turn(turn(api.TurnDeliver, 0, 0)); e != api.ErrNone {
+		t.Error("no bytes", e)
+	}
 	// One that no neighbor sent is strange.
 	b, _ := seg.Raw(api.Seg{From: 7, To: 2})
 	forge(b...)
@@ -243,6 +247,21 @@ func TestPicks(t *testing.T) {
 	forge(b...)
 	if e := w.Turn(turn(api.TurnDeliver, 0, 0)); e != api.OK || state(t, w, 1).Lines[0].Dropped[api.DropEnds] != 1 {
 		t.Error(e)
+	}
+}
+
+// P30.1: a datagram comes to whom its bytes name.
+func TestAddresses(t *testing.T) {
+	l := routers(2)
+	l[1].Self.Addr = 0x01020304
+	l[1].Neighbors = nil
+	w := made(t, l...)
+	for _, to := range [][]byte{{1, 2, 3, 4}, {0, 0, 0, 1}, {4, 3, 2, 1}, {0, 2, 3, 4}} {
+		does(t, w, api.Turn{Kind: api.TurnForge, Bytes: append(make([]byte, 4), to...)})
+		w.Turn(turn(api.TurnDeliver, 0, 0))
+	}
+	if a, b := state(t, w, 0), state(t, w, 1); a.Bad != 1 || b.Bad != 1 {
+		t.Error(a.Bad, b.Bad)
 	}
 }
 

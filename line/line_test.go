@@ -560,6 +560,9 @@ func TestByteByByte(t *testing.T) {
 				t.Fatal("told too early")
 			}
 			tidings = append(tidings, h.writes(b[i:i+1])...)
+			if h.line.State().Stream.Unread != 0 {
+				t.Fatal("what came is not read")
+			}
 		}
 	}
 	if !slices.Equal(kinds(tidings), []api.DeedKind{api.DeedOpen, api.DeedUpdate}) || !update.Same(tidings[1].Update, news(3)) {

@@ -48,8 +48,9 @@ type life struct {
 
 // does does turns, in order, as long as each may be told.
 func (f *life) does(l ...api.Turn) {
+	all := tableOfAll()
 	for _, t := range l {
-		e := Check(t)
+		e := all.check(t)
 		if e == api.OK {
 			e = f.Turn(t)
 		}

@@ -153,3 +153,56 @@ func TestLives(t *testing.T) {
 		t.Error("few lives came to their end: ", whole)
 	}
 }
+
+// P16.3: whatever parts come, forged ones, too: no call panics, and nothing grows beyond its bound.
+func TestAnything(t *testing.T) {
+	for seed := range 300 {
+		p := picks(seed * 104729)
+		isn := uint32(p.pick(3)) * 0x7fffffff
+		s, _ := stream.New(isn, seed%2 == 0)
+		near := func(of uint32) uint32 { return of + uint32(p.pick(60)) - 20 }
+		for range 400 {
+			x := s.State()
+			part := api.Part{Flags: api.Flags(p.pick(16)), Seq: near(x.Peer + uint32(x.Took)), Ack: near(isn + uint32(x.Window.Acked)), Window: uint16(p.pick(200)), Data: make([]byte, p.pick(65))}
+			switch p.pick(12) {
+			case 0:
+				part.Seq, part.Ack = uint32(p.pick(1<<22))<<10, uint32(p.pick(1<<22))<<10
+			case 1:
+				part.Window = uint16(p.pick(1 << 16))
+			case 2:
+				s.Write(make([]byte, p.pick(2000)))
+			case 3:
+				s.Read()
+			case 4:
+				s.Tick()
+			case 5:
+				if p.pick(20) == 0 {
+					s.Close()
+				}
+			}
+			if p.pick(3) > 0 {
+				part.Flags = api.Ack
+			}
+			if part.Flags&api.Rst != 0 && p.pick(4) > 0 {
+				part.Flags &^= api.Rst
+			}
+			parts, e := s.Come(part)
+			if e != api.OK {
+				t.Fatal(e)
+			}
+			for _, q := range parts {
+				if len(q.Data) > api.MaxData || q.Window > 1024 {
+					t.Fatal(q)
+				}
+			}
+			now := s.State()
+			w := now.Window
+			if now.Unread > 1024 || now.Written-w.Acked > api.MaxBuffer || w.Acked > w.Sent || w.Sent > w.Most || w.Most > now.Written || now.Took < x.Took {
+				t.Fatal(seed, now)
+			}
+			if c := s.Copy(); !stream.Same(c, s) {
+				t.Fatal("a copy is another one")
+			}
+		}
+	}
+}

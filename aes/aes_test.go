@@ -4,6 +4,7 @@ import (
 	"bytes"
 	libaes "crypto/aes"
 	"encoding/hex"
+	"math/bits"
 	"testing"
 
 	"pursuivant/aes"
@@ -62,6 +63,42 @@ func TestMulInverseBoxMix(t *testing.T) {
 	}
 	if m := aes.Mix([4]byte{0xd4, 0xd4, 0xd4, 0xd5}); m != [4]byte{0xd5, 0xd5, 0xd7, 0xd6} {
 		t.Errorf("%x", m)
+	}
+}
+
+// boxed is the box of a byte, the long way.
+func boxed(b int) byte {
+	inverse := byte(0)
+	for i := range 256 {
+		if product(b, i) == 1 {
+			inverse = byte(i)
+		}
+	}
+	box := byte(0x63)
+	for n := range 5 {
+		box ^= bits.RotateLeft8(inverse, n)
+	}
+	return box
+}
+
+// P3.1, P3.2: Box and ciphers, which do not ask Box, go by the same box, at every byte and whichever is called first.
+func TestOneBox(t *testing.T) {
+	for b := range 256 {
+		want := boxed(b)
+		c, _ := aes.New(bytes.Repeat([]byte{byte(b)}, 16))
+		keys := c.Keys()
+		if next := [4]byte(keys[1][:4]); next != [4]byte{want ^ byte(b) ^ 1, want ^ byte(b), want ^ byte(b), want ^ byte(b)} {
+			t.Errorf("the key behind that of %x: %x", b, next)
+		}
+		for n, step := range c.Steps([16]byte{}) {
+			// Of a block of one byte only, rows and columns are all alike, and the mix of a column is the column.
+			if same := want ^ keys[1][0]; n == 1 && step[0] != same {
+				t.Errorf("step 1 of %x: %x, not %x", b, step[0], same)
+			}
+		}
+		if got := aes.Box(byte(b)); got != want {
+			t.Errorf("Box(%x): %x, not %x", b, got, want)
+		}
 	}
 }
 

@@ -10,11 +10,13 @@ const (
 	boxed   = 0x63
 )
 
-// The box is worked out at the first call that asks for it, and then kept.
+// The box of each byte: worked out at the first call of Box, which alone reads it, and then kept.
 var (
 	boxOnce sync.Once
 	boxes   [256]byte
 )
+
+type boxTable [256]byte
 
 // add is the xor of all.
 func add(of ...byte) byte {
@@ -48,18 +50,29 @@ func Inverse(b byte) byte {
 	return power
 }
 
-func boxOf(b byte) byte {
-	i := Inverse(b)
-	rolled := func(n int) byte { return bits.RotateLeft8(i, n) }
-	return add(i, rolled(1), rolled(2), rolled(3), rolled(4), boxed)
+// boxOf is the box of a byte that has this inverse.
+func boxOf(i byte) byte {
+	return i ^ bits.RotateLeft8(i, 1) ^ bits.RotateLeft8(i, 2) ^ bits.RotateLeft8(i, 3) ^ bits.RotateLeft8(i, 4) ^ boxed
+}
+
+// allBoxes works out the box of each byte. Ciphers go by it, not by what is kept: so what they make hangs on keys and blocks alone.
+func allBoxes() boxTable {
+	// The powers of x + 1 are all bytes but 0, and the 255th is 1 again: so two of them are inverses where their numbers make 255.
+	var powers [256]byte
+	power := byte(1)
+	for n := range powers {
+		powers[n] = power
+		power ^= double(power)
+	}
+	all := boxTable{boxOf(0)}
+	for n, p := range powers {
+		all[p] = boxOf(powers[255-n])
+	}
+	return all
 }
 
 // Box: P3.1.
 func Box(b byte) byte {
-	boxOnce.Do(func() {
-		for i := range boxes {
-			boxes[i] = boxOf(byte(i))
-		}
-	})
+	boxOnce.Do(func() { boxes = allBoxes() })
 	return boxes[b]
 }

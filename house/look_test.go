@@ -66,14 +66,20 @@ func (w *waysLook) load(path string) (*waysPack, error) {
 	return p, err
 }
 
-// WaysMissing: the words of wanted of which the program (at root, of that module) has nothing in what its faces reach; sorted.
-func WaysMissing(root, module string, faces, wanted []string) ([]string, error) {
+// lookAt is a look at the program of that module, at root, that has loaded nothing yet.
+func lookAt(root, module string) *waysLook {
 	if build.Default.GOROOT == "" {
 		o, _ := exec.Command("go", "env", "GOROOT").Output()
 		build.Default.GOROOT = strings.TrimSpace(string(o))
 	}
 	w := &waysLook{root: root, module: module, fset: token.NewFileSet(), packs: map[string]*waysPack{}, info: &types.Info{Types: map[ast.Expr]types.TypeAndValue{}, Uses: map[*ast.Ident]types.Object{}, Defs: map[*ast.Ident]types.Object{}, Selections: map[*ast.SelectorExpr]*types.Selection{}, Instances: map[*ast.Ident]types.Instance{}}}
 	w.std = importer.ForCompiler(w.fset, "source", nil)
+	return w
+}
+
+// WaysMissing: the words of wanted of which the program (at root, of that module) has nothing in what its faces reach; sorted.
+func WaysMissing(root, module string, faces, wanted []string) ([]string, error) {
+	w := lookAt(root, module)
 	for _, f := range faces {
 		if _, err := os.Stat(filepath.Join(root, f)); err != nil {
 			return nil, err
